@@ -4,6 +4,7 @@ package prekeys
 import (
 	"errors"
 	"strconv"
+	"sync"
 )
 
 // Why something is refused: asked with errors.Is.
@@ -113,28 +114,53 @@ func Replies(text string) ([]Reply, error) {
 }
 
 // Disk is a stand-in for a file (P8).
-type Disk struct{}
+type Disk struct {
+	lock    sync.Mutex
+	safe    []byte
+	written []byte
+	fuse    int // how many operations it takes till the disk goes down; 0: none is lit
+	down    bool
+}
 
 // NewDisk makes an empty one (P8).
-func NewDisk() *Disk { return nil }
+func NewDisk() *Disk { return &Disk{} }
 
 // Write adds to what is only written (P8).
-func (d *Disk) Write(text string) error { return nil }
+func (d *Disk) Write(text string) error {
+	return d.operate(func() { d.written = append(d.written, text...) })
+}
 
 // Sync makes what is written safe (P8).
-func (d *Disk) Sync() error { return nil }
+func (d *Disk) Sync() error {
+	return d.operate(func() { d.keep(len(d.written)) })
+}
 
 // Replace puts a text in the place of all (P8).
-func (d *Disk) Replace(text string) error { return nil }
+func (d *Disk) Replace(text string) error {
+	return d.operate(func() { d.safe, d.written = []byte(text), nil })
+}
 
 // Fuse lets the disk go down later (P8).
-func (d *Disk) Fuse(n int) {}
+func (d *Disk) Fuse(n int) {
+	d.lock.Lock()
+	defer d.lock.Unlock()
+	d.fuse = max(n, 0)
+}
 
 // Crash loses what is not safe (P8).
-func (d *Disk) Crash(keep int) {}
+func (d *Disk) Crash(keep int) {
+	d.lock.Lock()
+	defer d.lock.Unlock()
+	d.keep(min(max(keep, 0), len(d.written)))
+	d.fuse, d.down = 0, false
+}
 
 // Bytes tells what is safe, and what is only written (P8).
-func (d *Disk) Bytes() (string, string) { return "", "" }
+func (d *Disk) Bytes() (string, string) {
+	d.lock.Lock()
+	defer d.lock.Unlock()
+	return string(d.safe), string(d.written)
+}
 
 // Server is a directory over a disk.
 type Server struct{}
