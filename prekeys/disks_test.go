@@ -252,6 +252,7 @@ func TestDiskIsLocked(t *testing.T) {
 				if err != nil {
 					t.Error("P8: ErrDown without a fuse")
 				}
+				d.Fuse(0) // that it takes the lock shows under the race detector alone
 				if safe, written := d.Bytes(); len(safe)%4 != 0 || len(written)%4 != 0 {
 					t.Errorf("P8: Bytes tells %d and %d bytes in the midst of a Write", len(safe), len(written))
 				}
