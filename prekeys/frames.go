@@ -18,6 +18,17 @@ func appendNumber(to []byte, number uint64, size int) []byte {
 	return to
 }
 
+func appendSignedKey(to []byte, id int, key, seal string) []byte {
+	to = appendNumber(to, uint64(id), idSize)
+	to = append(to, key...)
+	return append(to, seal...)
+}
+
+func appendOneTime(to []byte, id int, key string) []byte {
+	to = appendNumber(to, uint64(id), idSize)
+	return append(to, key...)
+}
+
 func frame(body []byte) string {
 	length := appendNumber(nil, uint64(len(body)), lengthSize)
 	return string(append(length, body...))

@@ -163,22 +163,78 @@ func (d *Disk) Bytes() (string, string) {
 }
 
 // Server is a directory over a disk.
-type Server struct{}
+type Server struct {
+	lock        sync.Mutex // of all but the shards, which have their own
+	disk        *Disk
+	config      Config
+	shards      []shard
+	connections [connectionCount]connection
+	notices     []string
+	down        bool
+}
 
 // Open makes a server out of what a disk has (P10).
-func Open(d *Disk, c Config) (*Server, error) { return nil, nil }
+func Open(d *Disk, c Config) (*Server, error) {
+	if !isConfig(c) {
+		return nil, ErrConfig
+	}
+	s := newServer(d, c)
+	safe, written := d.Bytes()
+	log := safe + written
+	read := s.replay(log)
+	if written == "" && read == len(log) {
+		return s, nil
+	}
+	if err := d.Replace(log[:read]); err != nil {
+		return nil, err
+	}
+	return s, nil
+}
 
 // Round lets chunks arrive, one on each connection, and tells what is answered (P11).
-func (s *Server) Round(chunks ...string) []string { return nil }
+func (s *Server) Round(chunks ...string) []string {
+	s.lock.Lock()
+	defer s.lock.Unlock()
+	answers := make([]string, len(chunks))
+	arrivals := s.arrive(chunks[:min(len(chunks), connectionCount)])
+	s.serveAll(arrivals, answers)
+	return answers
+}
 
 // Tick lets the time go on (P13).
-func (s *Server) Tick() {}
+func (s *Server) Tick() {
+	s.lock.Lock()
+	defer s.lock.Unlock()
+	for i := range s.connections {
+		c := &s.connections[i]
+		c.tokens = min(c.tokens+s.config.Refill, s.config.Burst)
+	}
+}
 
 // Notices tells whose keys are nearly gone (P13).
-func (s *Server) Notices() []string { return nil }
+func (s *Server) Notices() []string {
+	s.lock.Lock()
+	defer s.lock.Unlock()
+	notices := s.notices
+	s.notices = nil
+	return notices
+}
 
 // Compact writes the log anew (P13).
-func (s *Server) Compact() error { return nil }
+func (s *Server) Compact() error {
+	s.lock.Lock()
+	defer s.lock.Unlock()
+	if s.down {
+		return ErrDown
+	}
+	err := s.disk.Replace(s.logAnew())
+	s.down = err != nil
+	return err
+}
 
 // Down tells whether the disk has failed it (P12).
-func (s *Server) Down() bool { return false }
+func (s *Server) Down() bool {
+	s.lock.Lock()
+	defer s.lock.Unlock()
+	return s.down
+}

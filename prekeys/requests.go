@@ -1,6 +1,6 @@
 package prekeys
 
-// What an upload may have (P5).
+// What an upload may have (P5); how many ids a record of used ones has is the same (P9).
 const (
 	maxKeys = 10
 	maxID   = 65535
@@ -72,24 +72,32 @@ func requestBody(r Request) []byte {
 		body = append(body, r.Identity...)
 		fallthrough
 	case kindRotate:
-		body = appendNumber(body, uint64(r.ID), idSize)
-		body = append(body, r.Key...)
-		body = append(body, r.Seal...)
+		body = appendSignedKey(body, r.ID, r.Key, r.Seal)
 	case kindUpload:
 		body = append(body, byte(len(r.Keys)))
 		for _, one := range r.Keys {
-			body = appendNumber(body, uint64(one.ID), idSize)
-			body = append(body, one.Key...)
+			body = appendOneTime(body, one.ID, one.Key)
 		}
 	}
 	return body
 }
 
 func readRequest(body *reader) Request {
+	r := readHead(body, isKind)
+	readFields(body, &r)
+	return r
+}
+
+// readHead reads what all bodies begin with, of requests and of records.
+func readHead(body *reader, mayBe func(kind int) bool) Request {
 	r := Request{Kind: body.number(1)}
-	must(isKind(r.Kind))
+	must(mayBe(r.Kind))
 	r.Name = body.text(body.number(1))
 	must(Valid(r.Name) == nil)
+	return r
+}
+
+func readFields(body *reader, r *Request) {
 	switch r.Kind {
 	case kindRegister:
 		r.Identity = body.text(keySize)
@@ -99,15 +107,18 @@ func readRequest(body *reader) Request {
 	case kindUpload:
 		r.Keys = readKeys(body)
 	}
-	return r
 }
 
 func readKeys(body *reader) []OneTime {
-	count := body.number(1)
-	must(mayUpload(count))
 	var keys []OneTime
-	for range count {
+	for range readCount(body) {
 		keys = append(keys, body.oneTime())
 	}
 	return keys
+}
+
+func readCount(body *reader) int {
+	count := body.number(1)
+	must(mayUpload(count))
+	return count
 }
