@@ -12,7 +12,7 @@ import (
 
 // ask is a request as the plain directory knows it.
 type ask struct {
-	kind int
+	kind int // 0: what is no request
 	name string
 	ids  []int // of register and rotate one
 	bad  bool  // its seal is spoilt
@@ -21,6 +21,8 @@ type ask struct {
 func (a ask) body() string {
 	body := ""
 	switch a.kind {
+	case 0:
+		return "" // a length of 0 may not be
 	case 1:
 		body = register(a.name, a.ids[0])
 	case 2:
@@ -48,11 +50,14 @@ type plainDirectory struct {
 	entries map[string]*plainEntry
 	log     []string
 	tokens  [8]int
+	closed  [8]bool
 	notices []string
-	fuse    int
-	pending ask // what was only written when the disk went down
-	wrote   bool
 	down    bool
+
+	fuse     int // of the disk
+	diskDown bool
+	wrote    bool
+	pending  ask // what was only written when the disk went down, if it wrote that
 }
 
 func newPlain(c prekeys.Config) *plainDirectory {
@@ -66,7 +71,7 @@ func (m *plainDirectory) begin() {
 	for i := range m.tokens {
 		m.tokens[i] = m.config.Burst
 	}
-	m.notices, m.fuse, m.down, m.wrote = nil, 0, false, false
+	m.closed, m.notices, m.down = [8]bool{}, nil, false
 }
 
 func (m *plainDirectory) refusal(a ask) int {
@@ -98,7 +103,8 @@ func (m *plainDirectory) refusal(a ask) int {
 // burn tells whether the disk lives through an operation.
 func (m *plainDirectory) burn() bool {
 	m.fuse--
-	return m.fuse != 0
+	m.diskDown = m.diskDown || m.fuse == 0
+	return !m.diskDown
 }
 
 // safe tells whether the record of an ask is.
@@ -137,8 +143,13 @@ func (m *plainDirectory) do(a ask) {
 
 // serve tells the reply in short, with a space behind it.
 func (m *plainDirectory) serve(place int, a ask) string {
-	if m.down {
+	closed := m.closed[place]
+	m.closed[place] = closed || a.kind == 0
+	if closed || m.down {
 		return ""
+	}
+	if a.kind == 0 {
+		return "255:9 "
 	}
 	if a.kind == 4 && m.tokens[place] == 0 {
 		return "4:6 "
@@ -181,10 +192,15 @@ func (m *plainDirectory) crash(keep int) {
 			m.do(m.pending)
 		}
 	}
-	m.begin()
+	m.fuse, m.diskDown, m.wrote = 0, false, false
 }
 
-func (m *plainDirectory) compact() {
+// compact tells how it went.
+func (m *plainDirectory) compact() string {
+	if m.down || !m.burn() {
+		m.down = true
+		return "down"
+	}
 	m.log = nil
 	var names []string
 	for name := range m.entries {
@@ -208,6 +224,7 @@ func (m *plainDirectory) compact() {
 			m.log = append(m.log, upload(name, ids...))
 		}
 	}
+	return "fine"
 }
 
 // player lets a server and the plain directory do the same.
@@ -224,6 +241,9 @@ type player struct {
 func (p *player) ask() ask {
 	names := []string{"a", "b", "é", "é1", "zzz"}
 	a := ask{kind: 1 + p.random.IntN(5), name: names[p.random.IntN(len(names))], bad: p.random.IntN(8) == 0}
+	if p.random.IntN(80) == 0 {
+		return ask{kind: 0}
+	}
 	if a.kind > 3 {
 		a.bad = false
 		return a
@@ -284,26 +304,56 @@ func (p *player) left(place int) int {
 	return size
 }
 
+// reopen opens the disk as it is, or behind a crash; each time with another config.
 func (p *player) reopen() {
+	p.waiting, p.bytes = [8][]ask{}, [8]string{}
+	p.plain.config = anyConfig(p.random)
+	if p.random.IntN(4) > 0 {
+		p.crash()
+		p.spoil()
+	}
+	if p.plain.wrote { // there is something to be put right, but the disk is down
+		p.expectOpenFails()
+		p.crash()
+	}
+	p.server = opened(p.t, p.disk, p.plain.config)
+	p.plain.begin()
+	expectLog(p.t, "P10", p.disk, p.plain.log...)
+}
+
+func (p *player) crash() {
 	keep := p.random.IntN(160)
 	p.disk.Crash(keep)
 	p.plain.crash(keep)
-	p.waiting, p.bytes = [8][]ask{}, [8]string{}
-	p.server = opened(p.t, p.disk, p.plain.config)
-	expectLog(p.t, "P10", p.disk, p.plain.log...)
+}
+
+// spoil leaves something behind the log that must go, and lets Open fail at that at times.
+func (p *player) spoil() {
+	rubbish := []string{"", "\x00", "\xff\xff\xff\xff", recorded(given("nobody", 1)), recorded(register("new", 1))[:30]}
+	p.disk.Write(rubbish[p.random.IntN(len(rubbish))])
+	_, written := p.disk.Bytes()
+	if written != "" && p.random.IntN(2) == 0 {
+		p.disk.Fuse(1)
+		p.expectOpenFails()
+		p.crash()
+	}
+}
+
+func (p *player) expectOpenFails() {
+	safe, written := p.disk.Bytes()
+	if s, err := prekeys.Open(p.disk, p.plain.config); s != nil || told(err) != "down" {
+		p.t.Fatalf("P10: Open where Replace fails: %v, %s", s, told(err))
+	}
+	expectBytes(p.t, "behind an Open that failed", p.disk, safe, written)
 }
 
 func (p *player) step() {
 	switch n := p.random.IntN(40); {
 	case n == 0:
 		p.reopen()
-	case n == 1 && p.plain.down:
-		expectCompact(p.t, p.server, "down")
-	case n == 1 && p.plain.fuse <= 0:
-		p.plain.compact()
-		expectCompact(p.t, p.server, "fine")
-		expectLog(p.t, "P13", p.disk, p.plain.log...)
-	case n == 2 && !p.plain.down:
+	case n == 1:
+		expectCompact(p.t, p.server, p.plain.compact())
+	case n == 2:
 		p.plain.fuse = 1 + p.random.IntN(20)
 		p.disk.Fuse(p.plain.fuse)
 	case n < 10:
@@ -318,20 +368,27 @@ func (p *player) step() {
 		p.round()
 	}
 	expectDown(p.t, p.server, p.plain.down)
+	safe, _ := p.disk.Bytes()
+	if safe != logOf(p.plain.log...) {
+		p.t.Fatalf("P12, P13: the log is %x, want %x", safe, logOf(p.plain.log...))
+	}
+}
+
+func anyConfig(random *rand.Rand) prekeys.Config {
+	return prekeys.Config{Pool: 1 + random.IntN(30), Low: random.IntN(31), Burst: 1 + random.IntN(20), Refill: random.IntN(20), Shards: 1 + random.IntN(8)}
 }
 
 // TestPlayedAgainstThePlainDirectory plays at random, the same each time, with fuses and crashes.
 func TestPlayedAgainstThePlainDirectory(t *testing.T) {
 	for seed := range uint64(60) {
-		random := rand.New(rand.NewPCG(seed, 7))
-		c := prekeys.Config{Pool: 1 + random.IntN(30), Low: random.IntN(31), Burst: 1 + random.IntN(20), Refill: random.IntN(20), Shards: 1 + random.IntN(8)}
-		d := prekeys.NewDisk()
-		p := &player{t: t, random: random, plain: newPlain(c), disk: d, server: opened(t, d, c)}
-		for range 300 {
-			p.step()
-		}
-		if t.Failed() {
-			t.Fatalf("seed %d, %+v", seed, c)
-		}
+		t.Run(fmt.Sprint("seed ", seed), func(t *testing.T) {
+			random := rand.New(rand.NewPCG(seed, 7))
+			c := anyConfig(random)
+			d := prekeys.NewDisk()
+			p := &player{t: t, random: random, plain: newPlain(c), disk: d, server: opened(t, d, c)}
+			for range 300 {
+				p.step()
+			}
+		})
 	}
 }
